@@ -1,0 +1,1 @@
+"""Freshpromise: promising goods that keep for a while."""
