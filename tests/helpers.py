@@ -1,5 +1,10 @@
 """What several tests share: values of any kind, and slow but plain ways to the same sums."""
 
+import random
+import time
+
+from freshpromise.sums import room_for
+
 
 def deep(levels):
     """Return a list in a list in a list.."""
@@ -118,3 +123,63 @@ def some_goods(chance, many, last, most):
         day = chance.randint(0, last)
         goods.append((ident, day, chance.randint(day, last), chance.randint(1, most)))
     return goods
+
+
+def plain_room(lots, orders, pair):
+    """Return the room for a pair: what an order more, one too great, gets beside all others."""
+    wish = (0, *pair, sum(lot[3] for lot in lots) + 1)
+    return most_served(lots, [*orders, wish]) - sum(order[3] for order in orders)
+
+
+def plain_plan(lots, orders):
+    """Return the plan made unit by unit, or None if an order lacks one."""
+    left = {lot[0]: lot[3] for lot in lots}
+    shelf = sorted(lots, key=lambda lot: (lot[2], lot[1], lot[0]))
+    given = {}
+    for order in sorted(orders, key=lambda order: (order[1], order[2], order[0])):
+        for _ in range(order[3]):
+            fitting = [lot[0] for lot in shelf if plain_suits(lot, order) and left[lot[0]]]
+            if not fitting:
+                return None
+            left[fitting[0]] -= 1
+            way = (order[0], fitting[0])
+            given[way] = given.get(way, 0) + 1
+    return [(order, lot, many) for (order, lot), many in given.items()]
+
+
+def plain_kept(lots, orders):
+    """Return what orders keep, from the oldest on: what can be served more with each one."""
+    served = [most_served(lots, orders[:many]) for many in range(len(orders) + 1)]
+    return [more - less for less, more in zip(served, served[1:])]
+
+
+def with_ids(goods, chance, last=10 ** 6):
+    """Return lots or orders with other ids, different ones, in another sequence."""
+    idents = chance.sample(range(1, last + 1), len(goods))
+    return chance.sample([(ident, *one[1:]) for ident, one in zip(idents, goods)], len(goods))
+
+
+def quickest(call):
+    """Return the least time in seconds that a call takes of some tries, so that other work does not count."""
+    times = []
+    for _ in range(3):
+        start = time.perf_counter()
+        call()
+        times.append(time.perf_counter() - start)
+        if times[-1] < 0.3:
+            break
+    return min(times)
+
+
+def full_house(seed, last=1000):
+    """Return a hundred lots and a hundred orders that can all be served, with great amounts."""
+    chance = random.Random(seed)
+    lots = some_goods(chance, 100, last, 10 ** 9)
+    orders = []
+    while len(orders) < 100:
+        day = chance.randint(0, last)
+        pair = (day, chance.randint(day, last))
+        room = room_for(lots, orders, pair)
+        if room > 0:
+            orders.append((len(orders) + 1, *pair, min(room, chance.randint(1, 10 ** 9 // 2))))
+    return lots, orders

@@ -15,10 +15,17 @@ DEFINED = {
                  "with_amount"],
     "stairs.py": ["Stairs"],
     "sums.py": ["supply", "demand", "surplus", "least_stairs", "room_for", "room_stairs", "rooms"],
+    "plans.py": ["is_plan", "make_plan", "is_barred", "used"],
+    "cuts.py": ["kept_amounts", "cuts", "cut_stairs", "is_kept"],
+    "house.py": ["House"],
+    "offers.py": ["offer", "barred_days", "longest_keeping"],
 }
 METHODS = {
     ("stairs.py", "Stairs"): ["__init__", "__contains__", "__len__", "__bool__", "__or__", "__and__", "__eq__",
                               "corners", "text", "within", "read"],
+    ("house.py", "House"): ["__init__", "today", "lots", "orders", "add_lot", "accept", "cancel", "lessen",
+                            "change_lot", "recall", "close_day", "lot", "order", "room", "undo", "redo", "cuts_if",
+                            "cuts_if_recalled", "made", "copied", "same"],
 }
 
 
