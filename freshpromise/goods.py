@@ -3,6 +3,8 @@
 A pair is a tuple (day, keeps); a lot or an order is a tuple (id, day, keeps, amount).
 """
 
+from freshpromise.errors import UnknownId
+
 LAST_DAY = 1000000
 MOST = 1000000000
 LAST_ID = 1000000
@@ -66,6 +68,16 @@ def with_amount(goods, amount):
     """Return the same lot or order with another amount."""
     ident, day, keeps, _ = goods
     return (ident, day, keeps, amount)
+
+
+def find_goods(goods, ident):
+    """Return the one of some lots or orders with an id; raise UnknownId for any other value."""
+    # True is equal to 1, but it is no id.
+    if is_whole(ident):
+        for one in goods:
+            if one[0] == ident:
+                return one
+    raise UnknownId(ident)
 
 
 def read_number(word):

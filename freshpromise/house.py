@@ -1,8 +1,8 @@
 """The house: a day, its lots and its orders, with a plan for them, and their changes."""
 
 from freshpromise.cuts import cuts
-from freshpromise.errors import BadDay, BadGoods, NoRoom, NothingToDo, TakenId, TooMany, UnknownId
-from freshpromise.goods import is_amount, is_day, is_goods, is_id, is_pair, with_amount
+from freshpromise.errors import BadDay, BadGoods, NoRoom, NothingToDo, TakenId, TooMany
+from freshpromise.goods import find_goods, is_amount, is_day, is_goods, is_pair, with_amount
 from freshpromise.plans import make_plan, used
 from freshpromise.sums import room_for, room_stairs
 
@@ -47,11 +47,11 @@ class House:
 
     def lot(self, ident):
         """Return the lot with an id; raise UnknownId if there is none."""
-        return _with_id(self.lots, ident)
+        return find_goods(self.lots, ident)
 
     def order(self, ident):
         """Return the order with an id; raise UnknownId if there is none."""
-        return _with_id(self.orders, ident)
+        return find_goods(self.orders, ident)
 
     def room(self, day, keeps):
         """Return the room for a pair; raise BadDay if it is none, or for a day before today."""
@@ -172,16 +172,6 @@ class House:
         self._done.append(self._state)
         self._undone = []
         self._state = (today, lots, orders)
-
-
-def _with_id(goods, ident):
-    """Return the one of some lots or orders with an id; raise UnknownId for any other value."""
-    # True is equal to 1, but it is no id.
-    if is_id(ident):
-        for one in goods:
-            if one[0] == ident:
-                return one
-    raise UnknownId(ident)
 
 
 def _check_place(goods, ident):

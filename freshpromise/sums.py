@@ -43,13 +43,13 @@ def least_stairs(lots, orders):
 
 def room_for(lots, orders, pair):
     """Return the room for a pair: the least surplus of all staircases that have it."""
-    wish = _great_wish(lots, pair)
+    wish = great_wish(lots, pair)
     return _least_sums(lots, [*orders, wish])[-1][-1] + wish[3]
 
 
 def room_stairs(lots, orders, pair):
     """Return the staircase of a pair: of those whose surplus is the room, the one within all others."""
-    return least_stairs(lots, [*orders, _great_wish(lots, pair)])
+    return least_stairs(lots, [*orders, great_wish(lots, pair)])
 
 
 def rooms(lots, orders, *pairs):
@@ -58,7 +58,7 @@ def rooms(lots, orders, *pairs):
         yield room_for(lots, orders, pair)
 
 
-def _great_wish(lots, pair):
+def great_wish(lots, pair):
     """Return an order for a pair that asks for more than all lots have.
 
     With such an order no staircase without the pair has the least surplus, and all

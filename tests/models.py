@@ -1,10 +1,15 @@
-"""A plain model of a house: its rooms, cuts and plans are found by delivering, its history is a list of copies."""
+"""Plain models of a house and of a group.
+
+The rooms, cuts and plans of a house are found by delivering, its history is a list of copies.
+"""
 
 import copy
+import re
 
 from freshpromise.errors import NothingToDo
+from freshpromise.stairs import Stairs
 from freshpromise.sums import room_stairs
-from tests.helpers import plain_kept, plain_plan, plain_room
+from tests.helpers import can_serve, plain_kept, plain_plan, plain_room
 
 
 def answer(call, *values, **named):
@@ -174,3 +179,57 @@ class PlainHouse:
             return ["NothingToDo", "redo"]
         self.back.append(self.kept())
         self.today, self.stock, self.orders = self.forth.pop()
+
+
+class PlainGroup:
+    """Each method gives what `answer` gives for the method of a group."""
+
+    def __init__(self):
+        self.houses = {}
+
+    def open_house(self, name, today=0):
+        if type(name) is not str or re.fullmatch("[a-z]{1,8}", name) is None:
+            return ["UnknownName", name]
+        if name in self.houses:
+            return ["TakenName", name]
+        if not is_number(today, 0, 10 ** 6):
+            return ["BadDay", today]
+        self.houses[name] = PlainHouse()
+        self.houses[name].today = today
+
+    def send(self, source, target, ident, amount, days, new_id):
+        for name in [source, target]:
+            if type(name) is not str or name not in self.houses:
+                return ["UnknownName", name]
+        giver, taker = self.houses[source], self.houses[target]
+        if type(ident) is not int or ident not in giver.stock:
+            return ["UnknownId", ident]
+        lot = giver.stock[ident]
+        if not is_number(amount, 1, lot[3]):
+            return ["BadGoods", amount]
+        left = {**giver.stock, ident: (*lot[:3], lot[3] - amount)}
+        if not can_serve(list(left.values()), giver.orders):
+            return ["BadGoods", amount]
+        sent = (new_id, max(lot[1], giver.today) + days, lot[2], amount)
+        wrong = taker.add_lot(*sent)
+        if wrong:
+            return wrong
+        giver.note()
+        giver.stock = {one: left[one] for one in left if left[one][3]}
+        return sent
+
+    def accept(self, *order):
+        if not are_goods(order):
+            return ["BadGoods", order]
+        shown = [["NoRoom", Stairs()]]
+        for name in sorted(self.houses):
+            found = self.houses[name].accept(*order)
+            if found is None:
+                return name
+            if found[0] == "NoRoom":
+                shown.append(found)
+        return shown[1] if shown[1:] else shown[0]
+
+    def find(self, ident):
+        orders = [(name, order) for name in sorted(self.houses) for order in self.houses[name].orders]
+        return [(name, order) for name, order in orders if type(ident) is int and order[0] == ident]

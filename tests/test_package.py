@@ -19,6 +19,10 @@ DEFINED = {
     "cuts.py": ["kept_amounts", "cuts", "cut_stairs", "is_kept"],
     "house.py": ["House"],
     "offers.py": ["offer", "barred_days", "longest_keeping"],
+    "texts.py": ["house_text", "read_house", "table"],
+    "console.py": ["Console"],
+    "risks.py": ["burden", "spare", "safe_room", "is_safe", "worst_loss", "blockers"],
+    "group.py": ["Group"],
 }
 METHODS = {
     ("stairs.py", "Stairs"): ["__init__", "__contains__", "__len__", "__bool__", "__or__", "__and__", "__eq__",
@@ -26,6 +30,8 @@ METHODS = {
     ("house.py", "House"): ["__init__", "today", "lots", "orders", "add_lot", "accept", "cancel", "lessen",
                             "change_lot", "recall", "close_day", "lot", "order", "room", "undo", "redo", "cuts_if",
                             "cuts_if_recalled", "made", "copied", "same"],
+    ("console.py", "Console"): ["__init__", "__call__"],
+    ("group.py", "Group"): ["__init__", "open_house", "house", "names", "send", "accept", "find"],
 }
 
 
